@@ -1,0 +1,1 @@
+"""Names of a book's pages, and places on them."""
