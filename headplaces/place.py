@@ -16,6 +16,10 @@ class Place:
         self.note = numbers[4]
 
 
+def numbers_of(place):
+    return [place.from_index, place.to_index, place.kind, place.main, place.note]
+
+
 def has_right_pages(book, place):
     run = book.run_at(place.from_index)
     if run is None or not run.has_index(place.to_index):

@@ -8,6 +8,11 @@ PAGES = 3
 NAME = 4
 PAGE = 5
 WRITE = 6
+READ = 7
+FORM = 8
+TEXT = 9
+LIST = 10
+HAS = 11
 
 
 class UnknownCall(ValueError):
@@ -50,6 +55,11 @@ def answer_run(session, reader):
     return session.run(style, first, count, prefix)
 
 
+def answer_has(session, reader):
+    index = reader.take_number()
+    return session.has(index, reader.take_row())
+
+
 def answer_call(session, reader):
     call = reader.take_number()
     if call == BEGIN:
@@ -64,6 +74,16 @@ def answer_call(session, reader):
         return session.page(reader.take_row())
     if call == WRITE:
         return session.write(reader.take_row())
+    if call == READ:
+        return session.read(reader.take_row())
+    if call == FORM:
+        return session.form(reader.take_row())
+    if call == TEXT:
+        return session.text(reader.take_row())
+    if call == LIST:
+        return session.places_told(reader.take_row())
+    if call == HAS:
+        return answer_has(session, reader)
     raise UnknownCall(f"no call has the number {call}")
 
 

@@ -21,6 +21,12 @@ OWN_METHODS = set("append clear copy count endswith extend find get index insert
                   " isspace isupper items join keys ljust lower lstrip partition pop remove replace reverse rfind rjust"
                   " rpartition rsplit rstrip setdefault split splitlines startswith strip update upper values zfill"
                   " bit_length".split())
+NOT_AS_NAMES = set("attrgetter breakpoint builtins compile copyright credits delattr dir eval exec exit gc getattr"
+                   " globals hasattr help id importlib license locals methodcaller os quit setattr super type vars sys"
+                   " __name__".split())
+KEYWORDS = {"sorted": {"key", "reverse"}, "min": {"key", "default"}, "max": {"key", "default"}, "sum": {"start"},
+            "enumerate": {"start"}, "zip": {"strict"}}
+CHANGING = {"append", "clear", "extend", "insert", "pop", "remove", "reverse", "setdefault", "update"}
 SPECIAL_METHODS = {"__init__", "__eq__", "__repr__", "__str__", "__len__"}
 WALKED_AT_ONCE = {"zip", "enumerate", "reversed", "range"}
 WORDS = re.compile(r"\b(type|typing|typing_extensions|enum|Enum|IntEnum|StrEnum|Flag|IntFlag|Generic|Protocol|ABC"
@@ -132,6 +138,32 @@ class FormTest(unittest.TestCase):
                 names.extend([told.name for told in node.names] if isinstance(node, ast.ImportFrom) else [])
             self.assertEqual(len(names), len(set(names)), path)
 
+    def test_values_of_each_files_top_are_plain(self):
+        for path, tree in trees():
+            for node in tree.body:
+                if isinstance(node, ast.Assign):
+                    value = ast.literal_eval(node.value)
+                    inner = value.values() if isinstance(value, dict) else value if isinstance(value, list) else ()
+                    self.assertFalse(any(isinstance(one, (list, dict)) for one in inner), (path, node.lineno))
+
+    def test_no_annotations(self):
+        for path, node in nodes(ast.FunctionDef):
+            self.assertIsNone(node.returns, (path, node.name))
+        for path, node in nodes(ast.arg):
+            self.assertIsNone(node.annotation, (path, node.lineno))
+
+    def test_keywords(self):
+        for path, node in nodes(ast.Call):
+            allowed = KEYWORDS.get(node.func.id, set()) if isinstance(node.func, ast.Name) else set()
+            self.assertLessEqual({told.arg for told in node.keywords}, allowed, (path, node.lineno))
+
+    def test_errors_of_the_programs_own_alone_are_raised_and_none_is_taken(self):
+        own = {node.name for path, node in nodes(ast.ClassDef)}
+        for path, node in nodes(ast.Raise):
+            self.assertIsInstance(node.exc, ast.Call, (path, node.lineno))
+            self.assertIn(node.exc.func.id, own, (path, node.lineno))
+        self.assertEqual(nodes(ast.Try), [])
+
     def test_imports(self):
         drawn = {path.stem: [] for path in files()}
         for path, node in nodes(ast.ImportFrom):
@@ -165,6 +197,10 @@ class NamesTest(unittest.TestCase):
             elif hasattr(builtins, name):
                 self.assertIn(name, OWN_NAMES, (path, node.lineno))
 
+    def test_names_that_are_not_used(self):
+        for path, node in nodes(ast.Name):
+            self.assertNotIn(node.id, NOT_AS_NAMES, (path, node.lineno))
+
     def test_no_local_is_called_like_a_class_or_an_import(self):
         for path, tree in trees():
             taken = {node.name for node in tree.body if isinstance(node, ast.ClassDef)}
@@ -193,3 +229,17 @@ class NamesTest(unittest.TestCase):
         for path, node in nodes(ast.Assign, ast.AugAssign, ast.Return):
             if isinstance(node.value, ast.Call) and isinstance(node.value.func, ast.Name):
                 self.assertNotIn(node.value.func.id, WALKED_AT_ONCE, (path, node.lineno))
+
+    def test_what_a_loop_walks_is_not_changed_in_it(self):
+        for path, loop in nodes(ast.For):
+            walked = loop.iter
+            while isinstance(walked, ast.Call) and walked.args:
+                walked = walked.args[0]
+            for node in [inner for told in loop.body for inner in ast.walk(told)]:
+                changed = None
+                if isinstance(node, ast.Call) and isinstance(node.func, ast.Attribute) and node.func.attr in CHANGING:
+                    changed = node.func.value
+                if isinstance(node, ast.Subscript) and isinstance(node.ctx, ast.Store):
+                    changed = node.value
+                if changed is not None:
+                    self.assertNotEqual(ast.dump(changed), ast.dump(walked), (path, node.lineno))
